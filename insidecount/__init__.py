@@ -1,0 +1,1 @@
+"""Who is inside a house, by rows that come late or are lost."""
