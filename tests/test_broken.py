@@ -1,41 +1,12 @@
-"""Promise [7] as far as it speaks of broken, with [4] to [6] for what sound is."""
+"""Promise [7] as far as it speaks of broken and is_sound, with [4] to [6] for what sound is."""
 
-import itertools
 import random
 import unittest
 
 from insidecount.errors import HouseError
 from insidecount.houses import House
-from tests.helpers import house_after, standing, take
-
-
-def stories(time):
-    return itertools.product((0, 1), repeat=time)
-
-
-def passings(story):
-    """The moments in which a story turns, each with its word."""
-    ahead = (0, *story)
-    return {at + 1: ("out", "in")[now] for at, now in enumerate(story) if ahead[at] != now}
-
-
-def least_price(rows, late, time):
-    """The least price of a badge's stories that can be, by the words of [4]; None if none can."""
-    prices = []
-    for story in stories(time):
-        passed = passings(story)
-        if all(passed.get(moment) == word for moment, word in rows.items()):
-            prices.append(sum(1 for moment in passed if moment not in rows and moment + late < time))
-    return min(prices, default=None)
-
-
-def has_world(house, badges, late, lost):
-    """Whether there is a world, by the words of [5]."""
-    prices = []
-    for badge in range(badges):
-        rows = {moment: word for of, moment, word in house.rows() if of == badge}
-        prices.append(least_price(rows, late, house.time()))
-    return None not in prices and sum(prices) <= lost
+from insidecount.worlds import is_sound
+from tests.helpers import has_world, house_after, some_step, standing, take
 
 
 class BrokenTest(unittest.TestCase):
@@ -46,6 +17,7 @@ class BrokenTest(unittest.TestCase):
             take(house, [step])
             now = None if wanted is None or number < wanted else wanted
             self.assertEqual(house.broken(), now, (numbers, steps[: number + 1]))
+            self.assertIs(is_sound(house), now is None, (numbers, steps[: number + 1]))
 
     def test_none_while_sound(self):
         self.breaks((1, 0, 0), [(0,), (1, 0, 1, "in"), (2, 0, 2, "out"), (9, 0, 9, "in"), (60,)], None)
@@ -129,25 +101,20 @@ class BrokenTest(unittest.TestCase):
             wanted = None
             # A bounded number of tries: a house that refuses too much must fail this test, not hang it.
             for attempt in range(12):
-                step = self.some_step(chance, house, numbers[0])
+                step = some_step(chance, house, numbers[0], 7)
                 try:
                     take(house, [step])
                 except HouseError:
                     continue
-                if wanted is None and not has_world(house, *numbers):
+                if wanted is None and not has_world(house, numbers):
                     wanted = len(taken)
                 taken.append(step)
                 self.assertEqual(house.broken(), wanted, (numbers, taken))
+                self.assertIs(is_sound(house), has_world(house, numbers), (numbers, taken))
             many += len(taken)
             ends["sound" if wanted is None else "broken"] += 1
         self.assertGreater(min(ends.values()), 50, ends)
         self.assertGreater(many, 2000)
-
-    def some_step(self, chance, house, badges):
-        time = min(house.time() + chance.choice((0, 0, 1, 2)), 7)
-        if chance.randint(0, 3) == 0:
-            return (time,)
-        return (time, chance.randrange(badges), max(1, time - chance.randint(0, 3)), chance.choice(("in", "out")))
 
 
 if __name__ == "__main__":
